@@ -1,0 +1,1 @@
+"""Firstout: people brought out of a house, first out at every turn."""

@@ -1,0 +1,90 @@
+"""The rules of ../shared/LANGUAGE.md that are quick to see; not all of them."""
+
+import ast
+import pathlib
+import re
+import unittest
+
+PACKAGE = pathlib.Path(__file__).resolve().parent.parent / "firstout"
+FILES = sorted(PACKAGE.rglob("*.py"))
+
+LEFT_OUT = (
+    ast.With, ast.Match, ast.Delete, ast.Global, ast.Nonlocal, ast.Assert, ast.Yield, ast.YieldFrom, ast.AsyncFunctionDef,
+    ast.AsyncFor, ast.AsyncWith, ast.Await, ast.SetComp, ast.DictComp, ast.GeneratorExp, ast.NamedExpr, ast.Starred,
+    ast.Import, ast.AnnAssign, ast.Div, ast.MatMult,
+)
+OWN_NAMES = """
+len range enumerate zip min max sum abs sorted reversed int str bool list tuple dict set frozenset isinstance ord repr
+any all divmod Exception ValueError TypeError KeyError IndexError LookupError ZeroDivisionError ArithmeticError
+OverflowError RuntimeError NotImplementedError AttributeError StopIteration
+""".split()
+LEFT_OUT_WORDS = re.compile(
+    r"\b(type|typing|typing_extensions|enum|Enum|IntEnum|StrEnum|Flag|IntFlag|Generic|Protocol|ABC|ABCMeta|namedtuple"
+    r"|NamedTuple|TypedDict|TYPE_CHECKING|abstractmethod)\b|dataclass|overload|contextmanager"
+)
+PYTHONS_NAMES = vars(__builtins__) if not isinstance(__builtins__, dict) else __builtins__
+
+
+def nodes(path):
+    return ast.walk(ast.parse(path.read_text(encoding="ascii")))
+
+
+class Language(unittest.TestCase):
+    def test_only_python_files_lie_in_the_package(self):
+        self.assertIn(PACKAGE / "__init__.py", FILES)
+        others = [path for path in PACKAGE.rglob("*") if path.is_file() and "__pycache__" not in path.parts]
+        self.assertEqual(sorted(others), FILES)
+
+    def test_sizes_and_signs(self):
+        for path in FILES:
+            rows = path.read_bytes().decode("ascii").split("\n")
+            self.assertLessEqual(len(rows), 401, path)
+            for at, row in enumerate(rows, start=1):
+                self.assertLessEqual(len(row), 120, (path, at))
+                self.assertTrue(all(" " <= sign <= "~" for sign in row), (path, at))
+                self.assertIsNone(LEFT_OUT_WORDS.search(row), (path, at))
+
+    def test_forms(self):
+        for path in FILES:
+            for node in nodes(path):
+                where = (path, getattr(node, "lineno", None), node)
+                self.assertNotIsInstance(node, LEFT_OUT, where)
+                if isinstance(node, ast.Constant):
+                    self.assertNotIsInstance(node.value, (float, complex, bytes), where)
+                if isinstance(node, ast.FormattedValue):
+                    self.assertIsInstance(node.value, ast.Name, where)
+                if isinstance(node, ast.FunctionDef):
+                    self.assertLessEqual(node.end_lineno - node.lineno + 1, 40, where)
+                    self.assertEqual(node.decorator_list, [], where)
+                if isinstance(node, (ast.For, ast.While)):
+                    self.assertEqual(node.orelse, [], where)
+
+    def test_imports_draw_from_the_package_alone(self):
+        for path in FILES:
+            for node in nodes(path):
+                if isinstance(node, ast.ImportFrom):
+                    self.assertEqual(node.level, 0, path)
+                    self.assertTrue(node.module.startswith("firstout."), (path, node.module))
+
+    def test_pythons_own_names(self):
+        for path in FILES:
+            for node in nodes(path):
+                if isinstance(node, ast.Name) and node.id in PYTHONS_NAMES:
+                    self.assertIn(node.id, OWN_NAMES, (path, node.lineno))
+                    self.assertIsInstance(node.ctx, ast.Load, (path, node.lineno))
+                if isinstance(node, ast.arg):
+                    self.assertNotIn(node.arg, PYTHONS_NAMES, (path, node.lineno))
+
+    def test_no_name_is_a_method_here_and_a_value_there(self):
+        methods, values = {}, {}
+        for path in FILES:
+            for node in nodes(path):
+                if isinstance(node, ast.ClassDef):
+                    methods.update({part.name: path for part in node.body if isinstance(part, ast.FunctionDef)})
+                if isinstance(node, ast.Attribute) and isinstance(node.ctx, ast.Store):
+                    values[node.attr] = path
+        self.assertEqual(sorted(set(methods) & set(values)), [])
+
+
+if __name__ == "__main__":
+    unittest.main()
