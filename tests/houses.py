@@ -1,0 +1,136 @@
+"""What several tests need: houses, and all plans and cuts of small ones."""
+
+import itertools
+
+from firstout.doors import Beat, Door, Marked, Shut, Since, Told, Until, Wider
+from firstout.errors import NoDoor, NoHouse, NoPlan, NoRoom, NoRow, NoText, NoTurn, Twice, Unknown
+from firstout.house import House
+
+REFUSALS = [NoDoor, NoHouse, NoPlan, NoTurn, NoText, NoRow, Twice, NoRoom, Unknown]
+GREAT = 10 ** 11
+
+
+def refused(test, error, call, name=None):
+    """The call is refused with just this class, and with the name where the class has one."""
+    with test.assertRaises(error) as caught:
+        call()
+    for other in REFUSALS:
+        if other is not error:
+            test.assertNotIsInstance(caught.exception, other)
+    if name is not None:
+        test.assertEqual(caught.exception.name, name)
+
+
+def hall_house(first=0):
+    """The house of point 15."""
+    return House([("hall", 3)], [Door("d", "hall", None, 2)], [("hall", 3)], first + 2, first)
+
+
+def yard_house(last=2, first=0):
+    """The house of point 17."""
+    doors = [Door("d", "hall", None, 2), Door("e", "yard", "hall", 4)]
+    return House([("hall", 3), ("yard", 9)], doors, [("hall", 3), ("yard", 2)], first + last, first)
+
+
+def each_kind(name, start, end, first=0):
+    """A door of each kind, with what it lets at the turns first to first + 4."""
+    return [
+        (Door(name, start, end, 2), [2, 2, 2, 2, 2]),
+        (Since(name, start, end, 2, first + 2), [0, 0, 2, 2, 2]),
+        (Until(name, start, end, 2, first + 2), [2, 2, 0, 0, 0]),
+        (Beat(name, start, end, 2, 2, first + 1), [0, 2, 0, 2, 0]),
+        # Bits of a turn as great as GREAT would be too many, so it lets none there.
+        (Marked(name, start, end, 2, 0b11001), [2, 0, 0, 2, 2] if first == 0 else [0, 0, 0, 0, 0]),
+        (Told(name, start, end, lambda turn: turn - first + 1), [1, 2, 3, 4, 5]),
+        (Shut(Door(name, start, end, 3), first + 3), [3, 3, 3, 0, 0]),
+        (Wider(Door(name, start, end, 1), first + 1, 4), [1, 5, 5, 5, 5]),
+    ]
+
+
+def large_house(first=0):
+    """Eight rooms in a row, sixteen doors, twenty turns."""
+    names = ["aa", "bb", "cc", "dd", "ee", "ff", "gg", "hh"]
+    rooms = [(name, 10 + at) for at, name in enumerate(names)]
+    doors = [Told(f"on{here}", here, after, lambda turn, here=here: (turn * 7 + ord(here[0]) * 5) % 4)
+             for here, after in zip(names, names[1:])]
+    doors += [Beat(f"back{after}", after, here, 2, 3, first) for here, after in zip(names[:4], names[1:5])]
+    doors += [Door("left", "aa", None, 1), Since("right", "hh", None, 3, first + 4), Until("mid", "dd", None, 2, first + 9)]
+    doors += [Door("self", "cc", "cc", 5), Wider(Shut(Door("hop", "bb", "gg", 1), first + 15), first + 5, 2)]
+    return House(rooms, doors, [(name, 9) for name in names], first + 20, first)
+
+
+def small_houses():
+    """Houses small enough for all their plans and cuts to be gone through."""
+    return [
+        House([], [], [], 2),
+        House([("hall", 2)], [], [("hall", 1)], 3),
+        hall_house(),
+        hall_house(7),
+        yard_house(),
+        yard_house(3),
+        # Hall holds less than what its doors let in.
+        House([("hall", 1), ("yard", 4)], [Door("d", "hall", None, 2), Door("e", "yard", "hall", 2)], [("yard", 3)], 3),
+        # Two doors into one room that holds less than both let in.
+        House([("a", 1), ("b", 1), ("c", 1)],
+              [Door("d", "a", "c"), Door("e", "b", "c"), Door("f", "c", None, 2), Door("g", "b", None, 0)],
+              [("a", 1), ("b", 1)], 2),
+        # Nobody can come into a full room but where somebody goes on.
+        House([("a", 2), ("b", 1)], [Door("d", "a", "b"), Until("e", "b", None, 1, 6), Since("f", "a", None, 1, 7)],
+              [("a", 2), ("b", 1)], 8, 5),
+        # Whoever is in the way and can't be out must still find room.
+        House([("a", 1), ("b", 1)], [Door("d", "a", "b"), Door("e", "b", "a"), Since("f", "a", None, 1, 1)],
+              [("a", 1), ("b", 1)], 3),
+        House([("a", 2), ("b", 2)], [Door("d", "a", "a"), Beat("e", "a", "b", 2, 2), Beat("f", "b", None, 1, 2, 1)],
+              [("a", 2)], 3),
+        House([("a", 2), ("b", 0)], [Door("d", "a", "b", 2), Door("e", "b", None, 2), Since("f", "a", None, 2, 1)],
+              [("a", 1), ("a", 1)], 2),
+        House([("a", 3), ("b", 3)], [Wider(Door("d", "a", "b"), 1, 1), Shut(Door("e", "b", None, 2), 2)],
+              [("a", 3), ("b", 1)], 3),
+    ]
+
+
+def plans_within_doors(house):
+    """All plans as told by which no more go through a door than it lets."""
+    places = [(turn, name) for turn in range(house.first, house.last) for name in house.doors()]
+    for numbers in itertools.product(*[range(house.lets(name, turn) + 1) for turn, name in places]):
+        yield sorted((turn, name, number) for (turn, name), number in zip(places, numbers) if number > 0)
+
+
+def is_lawful(house, plan):
+    """Point 13 and 14 gone through turn by turn with people one by one, not by the program's own there."""
+    inside = {room: house.found(room) for room in house.rooms()}
+    for turn in range(house.first, house.last):
+        coming = []
+        for at, name, number in plan:
+            if at == turn:
+                for person in range(number):
+                    if inside[house.door(name).start] == 0:
+                        return False
+                    inside[house.door(name).start] -= 1
+                    coming.append(house.door(name).end)
+        for room in coming:
+            if room is not None:
+                inside[room] += 1
+        if any(inside[room] > house.holds(room) for room in inside):
+            return False
+    return True
+
+
+def lawful_plans(house):
+    return [plan for plan in plans_within_doors(house) if is_lawful(house, plan)]
+
+
+def most_out(house, plans):
+    """For each turn from first to last the most that one of the plans has out by then."""
+    most = []
+    for turn in range(house.first, house.last + 1):
+        most.append(max(sum(number for at, name, number in plan if at < turn and house.door(name).end is None)
+                        for plan in plans))
+    return most
+
+
+def all_cuts(house):
+    pairs = [(room, turn) for turn in range(house.first, house.last) for room in house.rooms()]
+    for size in range(len(pairs) + 1):
+        for cut in itertools.combinations(pairs, size):
+            yield list(cut)
