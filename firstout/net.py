@@ -5,6 +5,8 @@ were sent ahead are only sent round, never back: so out by each turn are as many
 The pairs to which one more person could still be sent then are a cut that shows it.
 """
 
+from firstout.plans import as_told
+
 
 class Net:
     # Behind each arc stands its way back, so that what was sent can be taken back: of arc k it is k ^ 1.
@@ -136,10 +138,9 @@ class HouseNet:
             self.net.new_arc(self.now_in(room), inside, self.plenty)
         self.net.send_all(self.source, inside)
 
-    # What was sent, as a plan is told.
+    # What was sent, as a plan.
     def rows(self):
-        sent = [(place, self.net.sent(arc)) for place, arc in self.door_arcs.items()]
-        return sorted([(place[0], place[1], number) for place, number in sent if number > 0])
+        return as_told([(place[0], place[1], self.net.sent(arc)) for place, arc in self.door_arcs.items()])
 
 
 def filled_net(house):

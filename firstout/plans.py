@@ -1,11 +1,18 @@
 """Plans: who is where by them, what is wrong with them, and who is out by when."""
 
+from firstout.errors import NoPlan
+
 
 def added_up(plan):
     going = {}
     for turn, name, number in plan:
         going[(turn, name)] = going.get((turn, name), 0) + number
     return going
+
+
+# Plans that say the same in other rows are told as one and the same plan.
+def as_told(plan):
+    return sorted([(place[0], place[1], number) for place, number in added_up(plan).items() if number > 0])
 
 
 def rows_that_count(house, plan):
@@ -71,6 +78,11 @@ def full_faults(house, inside):
 def faults(house, plan):
     inside = there(house, plan)
     return sorted(door_faults(house, plan) + leave_faults(house, plan, inside) + full_faults(house, inside))
+
+
+def need_lawful(house, plan):
+    if len(faults(house, plan)) > 0:
+        raise NoPlan("the plan has faults")
 
 
 def out_by(house, plan, turn):

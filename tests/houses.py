@@ -1,9 +1,11 @@
 """What several tests need: houses, and all plans and cuts of small ones."""
 
 import itertools
+import random
 
 from firstout.doors import Beat, Door, Marked, Shut, Since, Told, Until, Wider
 from firstout.errors import NoDoor, NoHouse, NoPlan, NoRoom, NoRow, NoText, NoTurn, Twice, Unknown
+from firstout.first import first_out
 from firstout.house import House
 
 REFUSALS = [NoDoor, NoHouse, NoPlan, NoTurn, NoText, NoRow, Twice, NoRoom, Unknown]
@@ -57,6 +59,46 @@ def large_house(first=0):
     doors += [Door("left", "aa", None, 1), Since("right", "hh", None, 3, first + 4), Until("mid", "dd", None, 2, first + 9)]
     doors += [Door("self", "cc", "cc", 5), Wider(Shut(Door("hop", "bb", "gg", 1), first + 15), first + 5, 2)]
     return House(rooms, doors, [(name, 9) for name in names], first + 20, first)
+
+
+def drawn_door(draw, name, start, end, wide, last):
+    kind = draw.randrange(8)
+    if kind == 0:
+        return Door(name, start, end, wide)
+    if kind == 1:
+        return Since(name, start, end, wide, draw.randrange(last))
+    if kind == 2:
+        return Until(name, start, end, wide, draw.randrange(last + 1))
+    if kind == 3:
+        return Beat(name, start, end, wide, draw.randrange(1, 4), draw.randrange(3))
+    if kind == 4:
+        return Marked(name, start, end, wide, draw.randrange(2 ** last))
+    if kind == 5:
+        return Shut(Door(name, start, end, wide), draw.randrange(last + 1))
+    if kind == 6:
+        inner = Since(name, start, end, wide, draw.randrange(last))
+        return Wider(inner, draw.randrange(last), draw.randrange(wide + 1))
+    turned = draw.randrange(1000)
+    return Told(name, start, end, lambda turn: (turn * 7919 + turned) % (wide + 1))
+
+
+def drawn_house(seed, rooms, doors, last, size):
+    """A house drawn by a seed, the same at each run."""
+    draw = random.Random(seed)
+    names = "abcdefgh"[:rooms]
+    sizes = [(name, draw.choice([0, size, size] + [draw.randrange(1, size + 1)] * 3)) for name in names]
+    ends = [None] + [draw.choice(list(names) + [None]) for door in range(doors - 1)]
+    drawn = [drawn_door(draw, "abcdefghijklmnop"[at], draw.choice(names), end, draw.randrange(size) // 2 + 1, last)
+             for at, end in enumerate(ends)]
+    return House(sizes, drawn, [(name, draw.randrange(holds // 2, holds + 1)) for name, holds in sizes], last)
+
+
+def drawn_houses():
+    """Houses of many sizes, up to the largest."""
+    houses = [drawn_house(seed, 2 + seed % 3, 4, 4, 5) for seed in range(20)]
+    houses += [drawn_house(seed, 5, 10, 12, 12) for seed in range(10)]
+    houses += [drawn_house(seed, 8, 16, 20, size) for seed, size in enumerate([4, 30, 10 ** 13] * 2)]
+    return houses + [large_house(), large_house(GREAT)]
 
 
 def small_houses():
@@ -129,8 +171,99 @@ def most_out(house, plans):
     return most
 
 
+def states_after(house, turn, state):
+    """All states behind the turn that some lawful goings at it lead to; a state is (out, how many in each room)."""
+    rooms = house.rooms()
+    doors = [house.door(name) for name in house.doors()]
+    for numbers in itertools.product(*[range(min(house.lets(door.name, turn), state[1 + rooms.index(door.start)]) + 1)
+                                       for door in doors]):
+        left, come = list(state), [0] * len(state)
+        for door, number in zip(doors, numbers):
+            left[1 + rooms.index(door.start)] -= number
+            come[0 if door.end is None else 1 + rooms.index(door.end)] += number
+        after = tuple(stay + new for stay, new in zip(left, come))
+        if min(left) >= 0 and all(after[1 + at] <= house.holds(room) for at, room in enumerate(rooms)):
+            yield after
+
+
+def most_out_by_states(house):
+    """For each turn from first to last the most that any lawful plan has out by then, for houses of few people."""
+    states = {(0,) + tuple(house.found(room) for room in house.rooms())}
+    most = [0]
+    for turn in range(house.first, house.last):
+        states = {after for state in states for after in states_after(house, turn, state)}
+        most.append(max(state[0] for state in states))
+    return most
+
+
 def all_cuts(house):
     pairs = [(room, turn) for turn in range(house.first, house.last) for room in house.rooms()]
     for size in range(len(pairs) + 1):
         for cut in itertools.combinations(pairs, size):
             yield list(cut)
+
+
+def outs_of(house, plan):
+    """How many are out by each turn from first to last, added up row by row, not by the program's own out_by."""
+    return most_out(house, [plan])
+
+
+def told_otherwise(plan):
+    """The same plan in another order, with rows of 0 and numbers in more rows than one."""
+    rows = []
+    for turn, name, number in plan:
+        rows = [(turn, name, number - number // 2), (turn, name, 0)] + rows + [(turn, name, number // 2)]
+    return rows + [(0, "nodoor", 0)]
+
+
+def told_of(house):
+    """All that a house tells, of the doors what they let up to last."""
+    rooms = [(room, house.holds(room), house.found(room), house.into(room), house.from_room(room))
+             for room in house.rooms()]
+    doors = [(name, house.door(name).start, house.door(name).end,
+              [house.lets(name, turn) for turn in range(house.first, house.last + 1)]) for name in house.doors()]
+    return [house.first, house.last, house.total(), rooms, doors, house.pairs()]
+
+
+def drawn_plan(house, seed):
+    """A lawful plan drawn by a seed, in which people also go where it is of no use."""
+    draw = random.Random(seed)
+    inside = {room: house.found(room) for room in house.rooms()}
+    plan = []
+    for turn in range(house.first, house.last):
+        left, come, rows = dict(inside), {room: 0 for room in inside}, []
+        for name in house.doors():
+            door = house.door(name)
+            number = draw.randrange(min(house.lets(name, turn), left[door.start]) + 1)
+            if door.end is not None:
+                number = min(number, max(0, house.holds(door.end) - inside[door.end] - come[door.end]))
+                come[door.end] += number
+            left[door.start] -= number
+            rows += [(turn, name, number)] if number > 0 else []
+        inside = {room: left[room] + come[room] for room in inside}
+        plan += rows
+    return sorted(plan)
+
+
+def houses_with_plans():
+    """Tuples (house, a lawful plan of it): all of the small houses, some of the others."""
+    pairs = [(house, plan) for house in small_houses() for plan in lawful_plans(house)]
+    for house in drawn_houses():
+        pairs.append((house, first_out(house)))
+        pairs += [(house, drawn_plan(house, seed)) for seed in range(2)]
+    return pairs
+
+
+def plans_with_faults():
+    """Of yard_house(), by what is wrong with them."""
+    return {
+        "more than the door lets": [(0, "d", 3)],
+        "rows that add up to more than the door lets": [(1, "d", 1), (0, "e", 1), (1, "d", 2)],
+        "a door that there is none": [(0, "f", 1)],
+        "ahead of first": [(-1, "d", 1)],
+        "from last on": [(2, "d", 1)],
+        "more leave than are in the room": [(0, "e", 3)],
+        "more leave than are still in the room": [(0, "d", 2), (1, "d", 2)],
+        "a room too full": [(0, "e", 1)],
+        "a room too full at last": [(1, "e", 2)],
+    }

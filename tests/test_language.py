@@ -156,6 +156,17 @@ class Language(unittest.TestCase):
                     values[node.attr] = path
         self.assertEqual(sorted(set(methods) & set(values)), [])
 
+    def test_no_local_is_called_like_a_class_or_an_import_of_its_file(self):
+        for path in FILES:
+            tree = ast.parse(path.read_text(encoding="ascii"))
+            taken = [node.name for node in tree.body if isinstance(node, ast.ClassDef)]
+            taken += [part.name for node in tree.body if isinstance(node, ast.ImportFrom) for part in node.names]
+            for node in ast.walk(tree):
+                if isinstance(node, ast.arg):
+                    self.assertNotIn(node.arg, taken, (path, node.lineno))
+                if isinstance(node, ast.Name) and isinstance(node.ctx, ast.Store):
+                    self.assertNotIn(node.id, taken, (path, node.lineno))
+
 
 if __name__ == "__main__":
     unittest.main()
