@@ -1,12 +1,14 @@
-"""What several tests need: houses, and all plans and cuts of small ones."""
+"""What several tests need: doors, houses, all plans and cuts of small ones, and desks."""
 
 import itertools
 import random
 
+from firstout.desk import Desk
 from firstout.doors import Beat, Door, Marked, Shut, Since, Told, Until, Wider
 from firstout.errors import NoDoor, NoHouse, NoPlan, NoRoom, NoRow, NoText, NoTurn, Twice, Unknown
 from firstout.first import first_out
 from firstout.house import House
+from firstout.kept import house_text, read_house
 
 REFUSALS = [NoDoor, NoHouse, NoPlan, NoTurn, NoText, NoRow, Twice, NoRoom, Unknown]
 GREAT = 10 ** 11
@@ -46,6 +48,22 @@ def each_kind(name, start, end, first=0):
         (Told(name, start, end, lambda turn: turn - first + 1), [1, 2, 3, 4, 5]),
         (Shut(Door(name, start, end, 3), first + 3), [3, 3, 3, 0, 0]),
         (Wider(Door(name, start, end, 1), first + 1, 4), [1, 5, 5, 5, 5]),
+    ]
+
+
+def doors_and_words(end, written):
+    """Tuples (door, its words), of each kind that has words and stands round no other one."""
+    return [
+        (Door("a", "hall", end, 2), f"door a hall {written} 2"),
+        (Door("a", "hall", end, 0), f"door a hall {written} 0"),
+        (Door("a", "hall", end), f"door a hall {written} 1"),
+        (Since("bb", "hall", end, 2, 3), f"since bb hall {written} 2 3"),
+        (Since("bb", "hall", end, 0, 10 ** 12), f"since bb hall {written} 0 1000000000000"),
+        (Until("c", "abcdefgh", end, 2, 5), f"until c abcdefgh {written} 2 5"),
+        (Beat("d", "hall", end, 2, 3, 4), f"beat d hall {written} 2 3 4"),
+        (Beat("d", "hall", end, 2, 3), f"beat d hall {written} 2 3 0"),
+        (Marked("e", "hall", end, 2, 13), f"marked e hall {written} 2 13"),
+        (Marked("e", "hall", end, 2, 0), f"marked e hall {written} 2 0"),
     ]
 
 
@@ -267,3 +285,52 @@ def plans_with_faults():
         "a room too full": [(0, "e", 1)],
         "a room too full at last": [(1, "e", 2)],
     }
+
+
+def with_words(house):
+    """The house with a Beat in the place of each Told, so that all its doors have words."""
+    doors = [house.door(name) for name in house.doors()]
+    doors = [Beat(door.name, door.start, door.end, 2, 2, house.first) if isinstance(door, Told) else door
+             for door in doors]
+    return House([(room, house.holds(room)) for room in house.rooms()], doors,
+                 [(room, house.found(room)) for room in house.rooms()], house.last, house.first)
+
+
+def houses_with_words():
+    return [with_words(house) for house in small_houses() + drawn_houses()]
+
+
+def desk_told(rows):
+    """A desk that was told a house by its rows."""
+    desk = Desk()
+    desk.say("house " + "; ".join(rows))
+    return desk
+
+
+def desk_with(house):
+    return desk_told(house_text(house).split("\n"))
+
+
+def kept_house(desk):
+    """The house that a desk has now."""
+    return read_house("\n".join(desk.say("keep")))
+
+
+def yard_rows():
+    """The rows of yard_house()."""
+    return ["turns 0 2", "room hall 3", "room yard 9", "way door d hall - 2", "way door e yard hall 4", "people hall 3",
+            "people yard 2"]
+
+
+def rows_asking(house):
+    """All rows that ask a desk with this house and change nothing."""
+    rows = ["plan", "all", "lost", "walks", "keep"]
+    for turn in range(house.first, house.last + 1):
+        rows += [f"out {turn}", f"cut {turn}", f"bound {turn}"]
+        rows += [f"bound {turn} {room} {at}" for room, at in house.pairs()[:6]]
+    return rows
+
+
+def all_answers(desk, house):
+    """What a desk with this house answers to all that can be asked of it."""
+    return [(row, desk.say(row)) for row in rows_asking(house)]

@@ -1,24 +1,8 @@
 import unittest
 
-from firstout.doors import Beat, Door, Marked, Shut, Since, Told, Until, Wider
+from firstout.doors import Door, Shut, Told, Until, Wider
 from firstout.errors import NoText
-
-GREAT = 10 ** 12
-
-
-def doors_and_words(end, written):
-    return [
-        (Door("a", "hall", end, 2), f"door a hall {written} 2"),
-        (Door("a", "hall", end, 0), f"door a hall {written} 0"),
-        (Door("a", "hall", end), f"door a hall {written} 1"),
-        (Since("bb", "hall", end, 2, 3), f"since bb hall {written} 2 3"),
-        (Since("bb", "hall", end, 0, GREAT), f"since bb hall {written} 0 1000000000000"),
-        (Until("c", "abcdefgh", end, 2, 5), f"until c abcdefgh {written} 2 5"),
-        (Beat("d", "hall", end, 2, 3, 4), f"beat d hall {written} 2 3 4"),
-        (Beat("d", "hall", end, 2, 3), f"beat d hall {written} 2 3 0"),
-        (Marked("e", "hall", end, 2, 13), f"marked e hall {written} 2 13"),
-        (Marked("e", "hall", end, 2, 0), f"marked e hall {written} 2 0"),
-    ]
+from houses import doors_and_words
 
 
 class Words(unittest.TestCase):
